@@ -1,0 +1,1 @@
+"""Water and waste at sea: how much there is, hour by hour along a ship's way."""
