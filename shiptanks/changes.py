@@ -3,13 +3,12 @@
 from shiptanks.codes import ASHORE, BUNKER, HOURS, LEG, NO_MORE, NO_ROOM, NOT_HERE, PERSONS, SET, SO_ALREADY
 from shiptanks.codes import TOO_LATE, TOO_LITTLE, WRONG_NUMBER
 from shiptanks.hour import pass_hours
-from shiptanks.state import copy_of, switches, wanted
-from shiptanks.way import Leg, MOST_KNOTS, MOST_LEG_HOURS, MOST_LEGS, MOST_MILES, in_port, leg_in, way_end
+from shiptanks.state import copy_of, switches, wanted, what_is_set
+from shiptanks.way import LAST_HOUR, Leg, MOST_KNOTS, MOST_LEG_HOURS, MOST_LEGS, MOST_MILES, in_port, leg_in, way_end
 
 MOST_PERSONS = 5000
 MOST_USES = 80
 MOST_HOURS_AT_ONCE = 500
-LAST_HOUR = 10000
 MOST_TAKEN_IN = 1000000000
 
 
@@ -37,7 +36,7 @@ def set_persons(state, n, uses):
 def set_switches(state, making, grey, black):
     if making > 1 or grey > 1 or black > 1:
         return [WRONG_NUMBER]
-    before = switches(state.making, state.letting_grey, state.letting_black)
+    before = what_is_set(state)
     if switches(making, grey, black) == before:
         return [SO_ALREADY]
     state.making = making
@@ -69,6 +68,7 @@ def give_ashore(state, grey, black):
         return [TOO_LITTLE]
     state.grey -= grey
     state.black -= black
+    state.ashore += grey + black
     return [state.grey, state.black]
 
 

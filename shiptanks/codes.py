@@ -12,10 +12,22 @@ NEXT_GO = 8
 MAY = 9
 AHEAD = 10
 ROOM = 11
+WANTS = 12
+WHERE = 13
+LOOK = 14
+END = 15
+FULL = 16
+TANKS = 17
+FLOWS = 18
+SUMS = 19
+BACK = 20
+AGAIN = 21
+STATE = 22
 
 # How many whole numbers each call takes, by the call's number.
-WIDTHS = (6, 3, 2, 3, 1, 2, 1, 0, 0, 0, 1, 0)
+WIDTHS = (6, 3, 2, 3, 1, 2, 1, 0, 0, 0, 1, 0, 0, 1, 1, 0, 1, 0, 0, 0, 0, 0, 0)
 
+NONE_THERE = -2
 TOO_LITTLE = -12
 NOT_HERE = -16
 SO_ALREADY = -17

@@ -41,20 +41,40 @@ def water_used(state):
     return min(wanted(state), state.fresh, most_for_grey, most_for_black)
 
 
-def pass_hour(state):
-    """Let one hour go by, in the state that is handed in."""
-    leg = leg_in(state.legs, state.hour)
-    state.grey -= grey_let_go(state, leg)
-    state.black -= black_let_go(state, leg)
+def let_go(state, leg):
+    """The first step: grey and black water go."""
+    grey = grey_let_go(state, leg)
+    black = black_let_go(state, leg)
+    state.grey -= grey
+    state.grey_gone += grey
+    state.black -= black
+    state.black_gone += black
+
+
+def make_water(state, leg):
+    """The second step: fresh water is made."""
     made = water_made(state, leg)
     state.fresh += made
     state.taken_in += made
+
+
+def use_water(state):
+    """The third step: water is used, and what's wanted and isn't used lacks."""
     used = water_used(state)
     grey = grey_part(used)
     state.fresh -= used
     state.grey += grey
     state.black += used - grey
+    state.used += used
     state.lacked += wanted(state) - used
+
+
+def pass_hour(state):
+    """Let one hour go by, in the state that is handed in."""
+    leg = leg_in(state.legs, state.hour)
+    let_go(state, leg)
+    make_water(state, leg)
+    use_water(state)
     state.hour += 1
 
 

@@ -3,6 +3,8 @@
 from shiptanks.asks import ask
 from shiptanks.changes import is_change, make_change
 from shiptanks.codes import START, WIDTHS, WRONG_NUMBER
+from shiptanks.history import do_history, is_history
+from shiptanks.outlook import is_outlook, look_ahead
 from shiptanks.state import Ship, Sizes
 
 MOST_LITRES = 10000000
@@ -22,6 +24,10 @@ def answer_of(ship, number, numbers):
     """What a call other than a start answers."""
     if is_change(number):
         return make_change(ship, number, numbers)
+    if is_history(number):
+        return do_history(ship, number)
+    if is_outlook(number):
+        return look_ahead(ship.now, number, numbers)
     return ask(ship.now, number, numbers)
 
 

@@ -31,7 +31,12 @@ class State:
         self.fresh = sizes.fresh
         self.grey = 0
         self.black = 0
+        # From here on sums over all that ever was.
         self.taken_in = 0
+        self.used = 0
+        self.grey_gone = 0
+        self.black_gone = 0
+        self.ashore = 0
         self.lacked = 0
 
 
@@ -49,6 +54,10 @@ def copy_of(state):
     twin.grey = state.grey
     twin.black = state.black
     twin.taken_in = state.taken_in
+    twin.used = state.used
+    twin.grey_gone = state.grey_gone
+    twin.black_gone = state.black_gone
+    twin.ashore = state.ashore
     twin.lacked = state.lacked
     return twin
 
@@ -56,6 +65,11 @@ def copy_of(state):
 def switches(making, grey, black):
     """Three things that are each 1 or 0, told as one number."""
     return making + 2 * grey + 4 * black
+
+
+def what_is_set(state):
+    """The three things that are set on or off, told as one number."""
+    return switches(state.making, state.letting_grey, state.letting_black)
 
 
 def wanted(state):
@@ -78,3 +92,13 @@ class Ship:
         # What was taken back follows on a state that the change has left behind.
         self.undone = []
         self.now = changed
+
+    def take_back(self):
+        """Take the last change back: all stands as it stood before it. There must be one."""
+        self.undone.append(self.now)
+        self.now = self.earlier.pop()
+
+    def do_again(self):
+        """Do again what was taken back last: all stands as it stood behind it. There must be one."""
+        self.earlier.append(self.now)
+        self.now = self.undone.pop()

@@ -5,16 +5,29 @@ from shiptanks.ship import answers
 NUMBERS = {
     "start": 0, "leg": 1, "persons": 2, "set": 3, "bunker": 4, "ashore": 5,
     "hours": 6, "lasts": 7, "next_go": 8, "may": 9, "ahead": 10, "room": 11,
+    "wants": 12, "where": 13, "look": 14, "end": 15, "full": 16, "tanks": 17,
+    "flows": 18, "sums": 19, "back": 20, "again": 21, "state": 22,
 }
 BIGGEST = 4294967295
 MOST = 10000000
 
-# Calls that ask for all there is to see, and then change all there is to change.
-PROBE = [
-    ("room",), ("may",), ("next_go",), ("lasts",), ("ahead", 1), ("ahead", 7), ("ahead", 500),
+# The voyage that most tests reckon by hand: from port along four legs; 150 litres are wanted an hour.
+SHIP = ("start", 1000, 100, 500, 200, 60, 30)
+VOYAGE = [SHIP, ("leg", 3, 0, 0), ("leg", 4, 4, 6), ("leg", 5, 12, 4), ("leg", 2, 20, 10),
+          ("persons", 10, 15), ("set", 1, 1, 1)]
+
+# Calls that ask for every number that stands now.
+ASKS = [("tanks",), ("sums",), ("state",), ("wants",), ("end",)] + [("look", k) for k in range(11)]
+
+# Calls that ask for all there is to see, then take back, do again, and change all there is to change.
+PROBE = ASKS + [
+    ("room",), ("may",), ("flows",), ("next_go",), ("lasts",), ("full", 1), ("full", 60), ("full", 100),
+    ("ahead", 1), ("ahead", 7), ("ahead", 500), ("where", 0), ("where", 5), ("where", 10000),
+    ("again",), ("tanks",), ("sums",), ("state",), ("back",), ("back",), ("back",), ("tanks",), ("sums",), ("state",),
+    ("again",), ("again",), ("again",), ("state",),
     ("persons", 3, 7), ("set", 1, 1, 0), ("set", 0, 1, 1), ("leg", 2, 30, 20), ("hours", 2), ("room",),
-    ("bunker", 1), ("ashore", 1, 0), ("ashore", 0, 1), ("hours", 9), ("room",),
-]
+    ("bunker", 1), ("ashore", 1, 0), ("ashore", 0, 1), ("hours", 9), ("room",), ("sums",), ("state",),
+] + [("back",)] * 31 + ASKS
 
 
 def flat(calls):
@@ -50,6 +63,11 @@ def run(calls):
 def last(calls):
     """What the last of these calls answers."""
     return run(calls)[-1]
+
+
+def behind_hours(line, n):
+    """The line, and n hours more."""
+    return line + [("hours", n)] * (n > 0)
 
 
 def check_refused(test, before, call, number):

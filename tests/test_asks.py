@@ -2,17 +2,13 @@
 
 import unittest
 
-from helper import BIGGEST, PROBE, check_refused, check_taken, last, run
-
-SHIP = ("start", 1000, 100, 500, 200, 60, 30)
-VOYAGE = [SHIP, ("leg", 3, 0, 0), ("leg", 4, 4, 6), ("leg", 5, 12, 4), ("leg", 2, 20, 10),
-          ("persons", 10, 15), ("set", 1, 1, 1)]
+from helper import BIGGEST, PROBE, SHIP, VOYAGE, behind_hours, check_refused, check_taken, last, run
 
 
 class Lasts(unittest.TestCase):
     def test_how_long(self):
         # The black tank is full behind hour 3; something lacks in hours 4 to 6, 10, 11, 14 and from then on.
-        told = [last(VOYAGE + [("hours", n)] * (n > 0) + [("lasts",)]) for n in range(16)]
+        told = [last(behind_hours(VOYAGE, n) + [("lasts",)]) for n in range(16)]
         self.assertEqual(told, [[n] for n in (4, 3, 2, 1, 0, 0, 0, 3, 2, 1, 0, 0, 2, 1, 0, 0)])
 
     def test_nothing_wanted_lasts_500_hours(self):
@@ -49,7 +45,7 @@ class NextGo(unittest.TestCase):
         check_taken(self, [SHIP, ("leg", 1, 12, 4)], ("next_go",), [0, 0, 1])
 
     def test_later_on(self):
-        told = [last(VOYAGE + [("hours", n)] * (n > 0) + [("next_go",)]) for n in range(15)]
+        told = [last(behind_hours(VOYAGE, n) + [("next_go",)]) for n in range(15)]
         self.assertEqual(told, [[0, 4, 8], [0, 3, 7], [0, 2, 6], [0, 1, 5], [0, 1, 4], [0, 1, 3], [0, 1, 2],
                                 [0, 6, 1], [0, 5, 1], [0, 4, 1], [0, 3, 1], [0, 2, 1], [0, 1, 1], [0, 1, 1], [-33]])
 
@@ -91,7 +87,7 @@ class May(unittest.TestCase):
             check_taken(self, [SHIP, ("leg", 1, miles, knots)], ("may",), [what, miles, knots])
 
     def test_by_the_hour(self):
-        told = [last(VOYAGE + [("hours", n)] * (n > 0) + [("may",)]) for n in (0, 2, 3, 6, 7, 11, 12, 13, 14, 500)]
+        told = [last(behind_hours(VOYAGE, n) + [("may",)]) for n in (0, 2, 3, 6, 7, 11, 12, 13, 14, 500)]
         self.assertEqual(told, [[0, 0, 0], [0, 0, 0], [2, 4, 6], [2, 4, 6], [5, 12, 4], [5, 12, 4], [7, 20, 10],
                                 [7, 20, 10], [0, 0, 0], [0, 0, 0]])
 
@@ -141,14 +137,17 @@ class Room(unittest.TestCase):
 
     def test_just_so_much_fits(self):
         line = VOYAGE + [("hours", 2)]
-        self.assertEqual(run(line + [("room",), ("bunker", 300), ("room",)])[-3:], [[300, 230, 30], [1000], [0, 230, 30]])
+        self.assertEqual(run(line + [("room",), ("bunker", 300), ("room",)])[-3:],
+                         [[300, 230, 30], [1000], [0, 230, 30]])
 
 
 class AskingLeavesAllAsItWas(unittest.TestCase):
     def test_each_call(self):
         for before in ([SHIP], VOYAGE, VOYAGE + [("hours", 5)], VOYAGE + [("hours", 11)]):
             without = run(before + PROBE)[len(before):]
-            for call in (("lasts",), ("next_go",), ("may",), ("ahead", 1), ("ahead", 500), ("room",)):
+            for call in (("lasts",), ("next_go",), ("may",), ("ahead", 1), ("ahead", 500), ("room",), ("wants",),
+                         ("where", 5), ("where", 10000), ("look", 0), ("look", 3), ("end",), ("full", 1), ("full", 100),
+                         ("tanks",), ("flows",), ("sums",), ("state",)):
                 told = run(before + [call, call] + PROBE)[len(before):]
                 self.assertEqual(told[0], told[1], call)
                 self.assertEqual(told[2:], without, call)

@@ -2,15 +2,12 @@
 
 import unittest
 
-from helper import MOST, last, run
-
-SHIP = ("start", 1000, 100, 500, 200, 60, 30)
+from helper import MOST, VOYAGE, last, run
 
 
 class AlongSeveralLegs(unittest.TestCase):
     # 150 litres are wanted: 135 would become grey, 15 black.
-    LINE = [SHIP, ("leg", 3, 0, 0), ("leg", 4, 4, 6), ("leg", 5, 12, 4), ("leg", 2, 20, 10),
-            ("persons", 10, 15), ("set", 1, 1, 1)]
+    LINE = VOYAGE
     # Each: hour behind it, lacked in it, fresh, grey, black.
     HOURS = [
         [1, 0, 850, 135, 15],

@@ -116,7 +116,7 @@ class Language(unittest.TestCase):
                     self.assertIn(node.id, ALLOWED_BUILTINS, name)
 
     def test_methods(self):
-        own = ["keep"]
+        own = ["keep", "take_back", "do_again"]
         for name, tree in trees():
             for node in ast.walk(tree):
                 if isinstance(node, ast.Call) and isinstance(node.func, ast.Attribute):

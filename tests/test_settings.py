@@ -2,9 +2,7 @@
 
 import unittest
 
-from helper import BIGGEST, check_refused, check_taken, last, run
-
-SHIP = ("start", 1000, 100, 500, 200, 60, 30)
+from helper import BIGGEST, SHIP, check_refused, check_taken, last, run
 
 
 class Legs(unittest.TestCase):
@@ -74,8 +72,8 @@ class Persons(unittest.TestCase):
         check_taken(self, [SHIP, ("persons", 4, 9)], ("persons", 4, 9), [36, 4, 9])
 
     def test_from_now_on(self):
-        self.assertEqual(run([SHIP, ("hours", 1), ("persons", 10, 1), ("hours", 2), ("persons", 1, 1), ("hours", 1)])[-1],
-                         [4, 0, 979, 18, 3])
+        line = [SHIP, ("hours", 1), ("persons", 10, 1), ("hours", 2), ("persons", 1, 1), ("hours", 1)]
+        self.assertEqual(last(line), [4, 0, 979, 18, 3])
 
 
 class Switches(unittest.TestCase):

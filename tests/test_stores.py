@@ -2,9 +2,8 @@
 
 import unittest
 
-from helper import BIGGEST, MOST, check_refused, check_taken, last, run
+from helper import BIGGEST, MOST, SHIP, check_refused, check_taken, last, run
 
-SHIP = ("start", 1000, 100, 500, 200, 60, 30)
 # In port with 700 fresh, 270 grey and 30 black.
 USED = [SHIP, ("persons", 10, 15), ("hours", 2), ("persons", 0, 0)]
 
